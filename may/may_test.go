@@ -73,3 +73,16 @@ func TestSmallTasks(t *testing.T) {
 		}
 	}
 }
+
+func TestDemand(t *testing.T) {
+	for _, ticks := range []int{1, 2, 255, 256, 1024, 1025, 32768, 65534, 65535} {
+		if !may.Demand(ticks) {
+			t.Errorf("P11.1: Demand(%d) is false", ticks)
+		}
+	}
+	for _, ticks := range []int{0, -1, -65535, math.MinInt, 65536, 65537, 1 << 17, 1 << 32, 1<<32 + 1, math.MaxInt} {
+		if may.Demand(ticks) {
+			t.Errorf("P11.1: Demand(%d) is true", ticks)
+		}
+	}
+}
