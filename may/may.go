@@ -1,4 +1,4 @@
-// Package may says of api's own types what may be, where more than one layer asks for it.
+// Package may says of api's own types, and of the numbers in them, what may be, where more than one layer asks for it.
 package may
 
 import (
@@ -19,10 +19,20 @@ func Task(t api.Task) bool {
 		t.Deadline >= 1 && t.Deadline <= t.Period &&
 		t.CLow >= 1 && t.CLow <= t.CHigh &&
 		t.CHigh <= t.Deadline &&
-		t.Prio >= 0 && t.Prio <= maxPrio
+		Prio(t.Prio)
+}
+
+// Prio answers whether a task, and its jobs, may stand by prio (chapters 11 and 12).
+func Prio(prio int) bool {
+	return prio >= 0 && prio <= maxPrio
 }
 
 // Demand answers whether a job may ask for so many ticks (chapter 11, and those of the layers 12 and 20).
 func Demand(ticks int) bool {
 	return ticks >= 1 && ticks <= maxDemand
+}
+
+// Clock answers whether now is a tick at which a clock may stand (chapters 6, 11 and 12).
+func Clock(now int) bool {
+	return now >= 0 && now <= api.MaxClock
 }

@@ -74,6 +74,32 @@ func TestSmallTasks(t *testing.T) {
 	}
 }
 
+func TestPrio(t *testing.T) {
+	for prio := -300; prio < 600; prio++ {
+		if got := may.Prio(prio); got != (prio >= 0 && prio <= 255) {
+			t.Errorf("P12.1: Prio(%d) = %t", prio, got)
+		}
+	}
+	for _, prio := range []int{math.MinInt, -1 << 32, 1 << 32, 1<<32 + 7, math.MaxInt} {
+		if may.Prio(prio) {
+			t.Errorf("P12.1: Prio(%d) is true", prio)
+		}
+	}
+}
+
+func TestClock(t *testing.T) {
+	for _, now := range []int{0, 1, 1024, 1 << 32, 1099511627775, 1099511627776} {
+		if !may.Clock(now) {
+			t.Errorf("P12.1: Clock(%d) is false", now)
+		}
+	}
+	for _, now := range []int{-1, math.MinInt, 1099511627777, 1 << 41, math.MaxInt} {
+		if may.Clock(now) {
+			t.Errorf("P12.1: Clock(%d) is true", now)
+		}
+	}
+}
+
 func TestDemand(t *testing.T) {
 	for _, ticks := range []int{1, 2, 255, 256, 1024, 1025, 32768, 65534, 65535} {
 		if !may.Demand(ticks) {
